@@ -156,37 +156,45 @@ func TestWorldPlayMany(t *testing.T) {
 	}
 }
 
+// some is a number, seldom one that is right.
+func (c *chooser) some() int {
+	return []int{0, 0, 1, 1, 2, 3, 12, 23, 24, 40, 61, 1001, -1, math.MinInt, math.MaxInt}[c.pick(15)]
+}
+
+// anyWorld is a plain world but for some numbers and for some of its lists.
+func (c *chooser) anyWorld() impl.World {
+	w := plainWorld().world()
+	for range c.pick(3) {
+		which, place := c.pick(2), c.pick(len(w.Net))
+		lead := c.pick(len(w.Leads[which]))
+		l, tier, m, told := &w.Leads[which][lead], &w.Tiers[which], &w.Net[place], &w.Told[which]
+		nums := []*int{
+			&w.Shards[which].Part, &w.Shards[which].Fence, &w.Shards[which].Stamp, &w.Shards[which].Rows[c.pick(24)].Ver, &w.Shards[which].Intents[0].Stamp, &w.Shards[which].Log[c.pick(4)].Key, &w.Shards[which].Dones[0].Ver,
+			&l.Term, &l.Cache.Floors[c.pick(24)], &tier.Id, &tier.Inc, &tier.Seq, &tier.Key, &tier.Op.Kind, &tier.Cache.Floors[c.pick(24)], &tier.Cache.Items[0].Key, &tier.Cache.Items[1].Ver,
+			&m.Kind, &m.Tier, &m.Part, &m.Inc, &m.Seq, &m.Code, &m.Item.Key, &m.Item.Ver, &m.Op.Kind, &m.Op.A, &told.Tier, &told.Code, &told.Item.Key, &told.Item.Ver, &told.Item.Val.Num,
+		}
+		*nums[c.pick(len(nums))] = c.some()
+	}
+	if c.pick(8) == 0 {
+		w.Shards = w.Shards[:c.pick(3)]
+	}
+	if c.pick(8) == 0 {
+		w.Leads = w.Leads[:c.pick(3)]
+	}
+	if c.pick(8) == 0 {
+		w.Tiers = w.Tiers[:c.pick(3)]
+	}
+	return w
+}
+
 // TestWorldAny has any numbers at all in a world and in what happens: it answers as the document says, and doesn't panic.
 func TestWorldAny(t *testing.T) {
 	c, oks := chooser(77), map[bool]int{}
-	some := func() int {
-		return []int{0, 0, 1, 1, 2, 3, 12, 23, 24, 40, 61, 1001, -1, math.MinInt, math.MaxInt}[c.pick(15)]
-	}
 	for range 8000 {
-		w := plainWorld().world()
-		for range c.pick(3) {
-			which, place := c.pick(2), c.pick(len(w.Net))
-			lead := c.pick(len(w.Leads[which]))
-			l, tier, m, told := &w.Leads[which][lead], &w.Tiers[which], &w.Net[place], &w.Told[which]
-			nums := []*int{
-				&w.Shards[which].Part, &w.Shards[which].Fence, &w.Shards[which].Stamp, &w.Shards[which].Rows[c.pick(24)].Ver, &w.Shards[which].Intents[0].Stamp, &w.Shards[which].Log[c.pick(4)].Key, &w.Shards[which].Dones[0].Ver,
-				&l.Term, &l.Cache.Floors[c.pick(24)], &tier.Id, &tier.Inc, &tier.Seq, &tier.Key, &tier.Op.Kind, &tier.Cache.Floors[c.pick(24)], &tier.Cache.Items[0].Key, &tier.Cache.Items[1].Ver,
-				&m.Kind, &m.Tier, &m.Part, &m.Inc, &m.Seq, &m.Code, &m.Item.Key, &m.Item.Ver, &m.Op.Kind, &m.Op.A, &told.Tier, &told.Code, &told.Item.Key, &told.Item.Ver, &told.Item.Val.Num,
-			}
-			*nums[c.pick(len(nums))] = some()
-		}
-		if c.pick(8) == 0 {
-			w.Shards = w.Shards[:c.pick(3)]
-		}
-		if c.pick(8) == 0 {
-			w.Leads = w.Leads[:c.pick(3)]
-		}
-		if c.pick(8) == 0 {
-			w.Tiers = w.Tiers[:c.pick(3)]
-		}
+		w := c.anyWorld()
 		ok := worldTold(w)
 		oks[ok]++
-		e := impl.Event{Kind: 1 + c.pick(12), A: some(), B: some(), N: some(), Op: impl.Op{Kind: some(), A: some(), B: some(), N: some()}}
+		e := impl.Event{Kind: 1 + c.pick(12), A: c.some(), B: c.some(), N: c.some(), Op: impl.Op{Kind: c.some(), A: c.some(), B: c.some(), N: c.some()}}
 		if got := impl.WorldOk(w); got != ok {
 			t.Fatalf("ok is %v:\n%s", got, worldText(w))
 		}

@@ -147,16 +147,12 @@ func worldCalls() []worldCall {
 	}
 }
 
-// wantWorldApart tells a call that writes into an argument, or whose answer shares memory with one, with itself or with another answer, or is another one once more.
-func wantWorldApart(t *testing.T, what string, call worldCall, w impl.World, events []impl.Event) {
+// wantCallApart tells a call that writes into its arguments, or whose answer shares memory with one of them, with itself or with another answer, or is another one once more.
+func wantCallApart(t *testing.T, what string, args reflect.Value, do func() any) {
 	t.Helper()
-	args := reflect.ValueOf(struct {
-		W      impl.World
-		Events []impl.Event
-	}{w, events})
 	before := wholeValue(args).Interface()
-	first := call.do(w, events)
-	second := call.do(w, events)
+	first := do()
+	second := do()
 	if !reflect.DeepEqual(wholeValue(args).Interface(), before) {
 		t.Fatalf("%s: an argument is written into", what)
 	}
@@ -173,6 +169,16 @@ func wantWorldApart(t *testing.T, what string, call worldCall, w impl.World, eve
 	if !reflect.DeepEqual(first, second) {
 		t.Fatalf("%s: another answer once more", what)
 	}
+}
+
+// wantWorldApart is the same of a call that is given a world and events.
+func wantWorldApart(t *testing.T, what string, call worldCall, w impl.World, events []impl.Event) {
+	t.Helper()
+	args := reflect.ValueOf(struct {
+		W      impl.World
+		Events []impl.Event
+	}{w, events})
+	wantCallApart(t, what, args, func() any { return call.do(w, events) })
 }
 
 // memoryEvents are events of all kinds that do something, and some that don't.
