@@ -27,9 +27,11 @@ func toldVers(tier int, key int, vers ...int) []impl.Told {
 
 // wasTold says whether a key once had what an item says, in the document's words; of parts the program is asked.
 func wasTold(s impl.Shard, it impl.Item) bool {
-	if !impl.ShardOk(s) || !among(it.Key, 0, 23) || !itemTold(it) || it.Key%2 != s.Part {
-		return false
-	}
+	return impl.ShardOk(s) && among(it.Key, 0, 23) && itemTold(it) && it.Key%2 == s.Part && hadTold(s, it)
+}
+
+// hadTold says the same of a part that is ok, and of an item that is right, of a key of it.
+func hadTold(s impl.Shard, it impl.Item) bool {
 	if it.Ver == 0 && isNothing(it.Val) {
 		return true
 	}
@@ -47,7 +49,7 @@ func trueTold(w impl.World) bool {
 		return false
 	}
 	for _, told := range w.Told {
-		if !wasTold(w.Shards[told.Item.Key%2], told.Item) {
+		if !hadTold(w.Shards[told.Item.Key%2], told.Item) {
 			return false
 		}
 	}
