@@ -193,9 +193,9 @@ func TestVowAny(t *testing.T) {
 	}
 }
 
-// TestVowOfLong has lists that are far longer than any that is ok, too short, and of nothing.
-func TestVowOfLong(t *testing.T) {
-	for what, do := range map[string]func(w *impl.World){
+// longChanges have lists that are far longer than any that is ok, too short, and of nothing.
+func longChanges() map[string]func(w *impl.World) {
+	return map[string]func(w *impl.World){
 		"parts":        func(w *impl.World) { w.Shards = slices.Repeat(w.Shards, 50000) },
 		"leads":        func(w *impl.World) { w.Leads[1] = slices.Repeat(w.Leads[1], 50000) },
 		"tiers":        func(w *impl.World) { w.Tiers = slices.Repeat(w.Tiers, 50000) },
@@ -218,7 +218,12 @@ func TestVowOfLong(t *testing.T) {
 		"keys of all": func(w *impl.World) {
 			w.Net[3].Item.Key, w.Told[0].Item.Key, w.Tiers[0].Cache.Items[0].Key = math.MinInt, math.MaxInt, math.MinInt
 		},
-	} {
+	}
+}
+
+// TestVowOfLong has each of these.
+func TestVowOfLong(t *testing.T) {
+	for what, do := range longChanges() {
 		w := vowWorld().world()
 		do(&w)
 		wantVows(t, fmt.Sprint("so many ", what), w, noneKept)
